@@ -1,0 +1,1 @@
+"""Hushcards: cards laid face down that reckon."""
