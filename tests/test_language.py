@@ -1,4 +1,4 @@
-"""Holds the package's files against the rules of form that a reader of their syntax can see."""
+"""Holds the package's files against a part of the rules of form: those that are easily read from the syntax."""
 
 import ast
 import builtins
