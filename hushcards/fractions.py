@@ -36,3 +36,10 @@ def total(some):
     for fraction in some:
         result = plus(result, fraction)
     return result
+
+
+def common_bottom(some):
+    bottom = 1
+    for fraction in some:
+        bottom = bottom * fraction[1] // greatest_divisor(bottom, fraction[1])
+    return bottom

@@ -22,6 +22,12 @@ PARTS = ("dataclass", "overload", "contextmanager")
 NEVER = set("""register mro elements open input version_info with_traceback add_note format format_map""".split())
 LAZY = ("range", "enumerate", "zip", "reversed", "items", "keys", "values")
 WALKERS = set("list tuple dict sorted sum any all enumerate zip min max join".split())
+CHANGING = set("append clear extend insert pop remove reverse setdefault update add discard".split())
+NO_VALUES = set("""items keys values pop update append clear extend insert remove reverse setdefault sort args encode
+    format""".split())
+KEYWORDS = {"sorted": ("key", "reverse"), "min": ("key", "default"), "max": ("key", "default"), "sum": ("start",),
+            "enumerate": ("start",), "zip": ("strict",)}
+ASKED = set("int str bool list tuple dict".split())
 
 TOP = (ast.Expr, ast.ImportFrom, ast.FunctionDef, ast.ClassDef, ast.Assign)
 STATEMENTS = (ast.FunctionDef, ast.ClassDef, ast.ImportFrom, ast.Assign, ast.AugAssign, ast.If, ast.While, ast.For,
@@ -65,6 +71,29 @@ def top_names(tree):
             names.extend([target.id for target in node.targets])
         elif isinstance(node, ast.ImportFrom):
             names.extend([alias.asname or alias.name for alias in node.names])
+    return names
+
+
+def walked_names(node):
+    """The names of what a loop walks: itself, or through a call that is walked on the spot."""
+    if isinstance(node, ast.Name):
+        return [node.id]
+    if isinstance(node, ast.Call) and isinstance(node.func, ast.Attribute) and node.func.attr in LAZY:
+        return walked_names(node.func.value)
+    if isinstance(node, ast.Call) and getattr(node.func, "id", "") in ("enumerate", "zip", "reversed"):
+        return [name for part in node.args for name in walked_names(part)]
+    return []
+
+
+def changed_names(nodes):
+    names = []
+    for node in [inner for outer in nodes for inner in ast.walk(outer)]:
+        if isinstance(node, ast.Call) and isinstance(node.func, ast.Attribute) and node.func.attr in CHANGING:
+            names.append(getattr(node.func.value, "id", ""))
+        if isinstance(node, ast.Subscript) and isinstance(node.ctx, ast.Store):
+            names.append(getattr(node.value, "id", ""))
+        if isinstance(node, ast.AugAssign):
+            names.append(getattr(node.target, "id", ""))
     return names
 
 
@@ -214,6 +243,63 @@ class Form(unittest.TestCase):
             for node in ast.walk(tree):
                 if isinstance(node, ast.Call) and self.called(node) in LAZY:
                     self.assertIn(node, walked, (path.name, node.lineno))
+
+    def test_loops_leave_what_they_walk(self):
+        for name, node in self.each_node():
+            if isinstance(node, ast.For):
+                both = set(walked_names(node.iter)) & set(changed_names(node.body))
+                self.assertEqual(both, set(), (name, node.lineno))
+
+    def test_locals_unlike_imports_and_classes(self):
+        for path in package_files():
+            tree = ast.parse(path.read_text())
+            taken = [alias.name for node in tree.body if isinstance(node, ast.ImportFrom) for alias in node.names]
+            taken.extend([node.name for node in tree.body if isinstance(node, ast.ClassDef)])
+            for node in ast.walk(tree):
+                if isinstance(node, ast.FunctionDef):
+                    inner = set(bound_names(ast.Module([node], []))) - {node.name}
+                    self.assertEqual(inner & set(taken), set(), (path.name, node.lineno))
+
+    def test_sets_are_not_kept(self):
+        for path in package_files():
+            tree = ast.parse(path.read_text())
+            spent = []
+            for node in ast.walk(tree):
+                if isinstance(node, ast.Compare):
+                    spent.extend([node.left] + node.comparators)
+                if isinstance(node, ast.Call) and self.called(node) in ("len", "sorted") and not node.keywords:
+                    spent.extend(node.args)
+            for node in ast.walk(tree):
+                made = isinstance(node, ast.Call) and self.called(node) in ("set", "frozenset")
+                if made or isinstance(node, ast.Set):
+                    self.assertIn(node, spent, (path.name, node.lineno))
+
+    def test_calls_of_pythons_own(self):
+        for name, node in self.each_node():
+            where = (name, getattr(node, "lineno", 0))
+            if isinstance(node, ast.Call):
+                for keyword in node.keywords:
+                    self.assertIn(keyword.arg, KEYWORDS.get(self.called(node), ()), where)
+            if isinstance(node, ast.Call) and self.called(node) == "isinstance":
+                kinds = node.args[1].elts if isinstance(node.args[1], ast.Tuple) else [node.args[1]]
+                for kind in kinds:
+                    self.assertTrue(kind.id in ASKED or kind.id[0].isupper(), where)
+
+    def test_methods_and_values_are_unlike(self):
+        methods = [each for path in package_files() for each in method_names(ast.parse(path.read_text()))]
+        for name, node in self.each_node():
+            if isinstance(node, ast.Attribute) and isinstance(node.ctx, ast.Store):
+                self.assertNotIn(node.attr, methods, (name, node.lineno))
+                self.assertNotIn(node.attr, NO_VALUES, (name, node.lineno))
+
+    def test_errors_taken(self):
+        for name, node in self.each_node():
+            if isinstance(node, ast.ExceptHandler):
+                self.assertIsNotNone(node.type, (name, node.lineno))
+                taken = [part.id for part in ast.walk(node.type) if isinstance(part, ast.Name)]
+                self.assertEqual(set(taken) & {"Exception", "TypeError"}, set(), (name, node.lineno))
+            if isinstance(node, ast.Raise):
+                self.assertIsInstance(node.exc, ast.Call, (name, node.lineno))
 
     def called(self, node):
         return node.func.attr if isinstance(node.func, ast.Attribute) else getattr(node.func, "id", "")
