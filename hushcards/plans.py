@@ -76,13 +76,17 @@ def is_plan(thing, many):
     return True
 
 
-def plans_in(plan):
+def levels_of(plan):
+    levels = []
     level = [plan]
-    met = 0
     while len(level) > 0:
-        met += len(level)
+        levels.append(level)
         level = plans_within(level)
-    return met
+    return levels
+
+
+def plans_in(plan):
+    return sum([len(level) for level in levels_of(plan)])
 
 
 # A plan that is come to, what was seen ahead of it, and the rows that may lie there. Their weights are whole numbers,
