@@ -140,7 +140,7 @@ def scenes_behind(scene):
     return []
 
 
-def round_of(plan, row):
+def walk_once(plan, row):
     walk = Round()
     waiting = [Scene(plan, (), 1, {row: 1})]
     while len(waiting) > 0:
@@ -150,6 +150,11 @@ def round_of(plan, row):
         if form == "end":
             walk.ends.append(scene)
         waiting.extend(scenes_behind(scene))
+    return walk
+
+
+def round_of(plan, row):
+    walk = walk_once(plan, row)
     # Asked only when all is walked, for what has no way is refused ahead of this, wherever it may be seen.
     if len(walk.ends) == 0:
         raise NoEnd("no walk comes to an end")
