@@ -2,6 +2,7 @@ import unittest
 from fractions import Fraction
 from itertools import permutations, product
 from random import Random
+from time import monotonic
 
 from hushcards.errors import CardError
 from hushcards.fewest import depth_in, fewest
@@ -298,6 +299,19 @@ class AtLarge(FewestCase):
         self.assertEqual(set(met), {None, 0, 2, 3})
         self.assertGreater(min(met.values()), 3)
 
+    def test_six_cards_against_the_same_search(self):
+        source = Random(85)
+        asked = [(ANDED, (TURN6,)), (ANDED, (ROUND6, TURN6)), (ALIKE, (ROUND6,)), (ALIKE, (TURN6, ROUND6))]
+        for step in range(60):
+            menu = tuple([self.some_shuffle(source, 6) for shuffle in range(1 + step % 2)])
+            asked.append((self.some_deals(source, 6, source.randint(2, 4), source.choice([1, 1, 2, 5])), menu))
+        met = {}
+        for deals, menu in asked:
+            depth = least_depth(deals, menu, 3)
+            met[depth] = met.get(depth, 0) + 1
+            self.check(deals, menu, depth)
+        self.assertEqual(set(met), {None, 0, 2, 3})
+
     def test_against_every_single_plan(self):
         source = Random(82)
         met = {}
@@ -347,7 +361,9 @@ class Greatest(FewestCase):
             rows = sorted(set([tuple(source.sample(cards, 6)) for step in range(9)]))[:4]
             deals = [(row, (source.randint(0, 1), source.randint(0, 2))) for row in rows]
             menu = tuple([tuple([tuple(source.sample(range(6), 6)) for order in range(6)]) for shuffle in range(3)])
+            begun = monotonic()
             told = fewest(deals, menu, 3)
+            self.assertLess(monotonic() - begun, 5)
             if told is not None:
                 self.check_found(deals, menu, 3, depth_in(told, menu))
 
