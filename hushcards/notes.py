@@ -34,8 +34,20 @@ def plan_text(plan):
     return f"{form} {numbers} : {inner}"
 
 
-# Goes through the words of a text. It is no judge of blanks, nor of what is a plan: who reads with it asks whether what
-# was read is one, and is written so.
+def is_number(word):
+    return len(word) > 0 and all([sign in FIGURES for sign in word])
+
+
+def number_of(word):
+    # Figure by figure, for Python's own reading fails at words of some thousand figures.
+    number = 0
+    for sign in word:
+        number = 10 * number + FIGURES[sign]
+    return number
+
+
+# Goes through the words of a text. It is no judge of blanks, of a 0 ahead of other figures, nor of what is a plan: who
+# reads with it asks whether what was read is one, and is written so.
 class Reader:
 
     def __init__(self, text):
@@ -62,9 +74,8 @@ class Reader:
 
     def read_numbers(self):
         numbers = []
-        # No place and no card has two figures.
-        while self.coming() in FIGURES:
-            numbers.append(FIGURES[self.take()])
+        while is_number(self.coming()):
+            numbers.append(number_of(self.take()))
         return tuple(numbers)
 
     def read_orders(self):

@@ -34,6 +34,27 @@ WRITTEN = (
      "mix 0 1 / 1 0 : look 0 (0 : lay 1 0 : end 0 ; 1 : mix 0 1 / 1 0 : end 1 0)"),
 )
 
+FALLING = (10, 9, 8, 7, 6, 5, 4, 3, 2, 1, 0)
+TURNED = (1, 2, 3, 4, 5, 6, 7, 8, 9, 10, 0)
+
+# Likewise, of more cards than a row has: their places have two figures and more.
+WRITTEN_OF_MORE = (
+    (("end", (8,)), 9, "end 8"),
+    (("end", (9,)), 10, "end 9"),
+    (("end", (10,)), 11, "end 10"),
+    (("end", (10,)), 12, "end 10"),
+    (("end", (11, 0, 10)), 12, "end 11 0 10"),
+    (("lay", FALLING, END), 11, "lay 10 9 8 7 6 5 4 3 2 1 0 : end 0"),
+    (("mix", (FALLING, TURNED), ("end", (10, 1))), 11,
+     "mix 10 9 8 7 6 5 4 3 2 1 0 / 1 2 3 4 5 6 7 8 9 10 0 : end 10 1"),
+    (("look", (10, 1), (((0, 9), ("end", (10,))), ((1, 0), AGAIN))), 11, "look 10 1 (0 9 : end 10 ; 1 0 : again)"),
+    (("look", (10,), (((0,), ("lay", FALLING, ("end", (10,)))), ((9,), ("mix", (TURNED,), ("end", (0, 10)))))), 11,
+     "look 10 (0 : lay 10 9 8 7 6 5 4 3 2 1 0 : end 10 ; 9 : mix 1 2 3 4 5 6 7 8 9 10 0 : end 0 10)"),
+    (("end", (100, 99)), 101, "end 100 99"),
+    (("end", (999999, 100000)), 1000000, "end 999999 100000"),
+    (("end", (1000000,)), 1000001, "end 1000000"),
+)
+
 NO_TEXTS = (None, True, False, 0, 1, -1, 10 ** 400, [], ["again"], ["end 0"], [0], (), ("again",), ("end", (0,)), (0, 1),
             ("0",), {}, {"again": 0}, {0: "0"}, [["0"]])
 
@@ -72,14 +93,14 @@ class Rows(NoteCase):
         self.refuses(row_read, "0 " * 1999 + "0")
 
     def test_plans_are_no_rows(self):
-        for plan, many, text in WRITTEN:
+        for plan, many, text in WRITTEN + WRITTEN_OF_MORE:
             self.refuses(row_read, text)
 
 
 class Plans(NoteCase):
 
     def test_written_and_read(self):
-        for plan, many, text in WRITTEN:
+        for plan, many, text in WRITTEN + WRITTEN_OF_MORE:
             self.assertEqual(plan_text(plan), text)
             self.assertIs(type(plan_text(plan)), str)
             told = plan_read(text, many)
@@ -99,9 +120,9 @@ class Plans(NoteCase):
                 self.refuses(plan_read, around.replace("{}", text), 1)
 
     def test_signs_more_or_fewer(self):
-        for plan, many, text in WRITTEN:
+        for plan, many, text in WRITTEN + WRITTEN_OF_MORE:
             for place in range(len(text) + 1):
-                for sign in " 0:/;()a~\n%":
+                for sign in " 01:/;()a~\n%":
                     self.check_other(text[:place] + sign + text[place:], many, text)
                 self.check_other(text[:place], many, text)
                 self.check_other(text[place:], many, text)
@@ -120,7 +141,7 @@ class Plans(NoteCase):
         self.assertEqual(plan_text(told), other)
 
     def test_blanks(self):
-        for plan, many, text in WRITTEN:
+        for plan, many, text in WRITTEN + WRITTEN_OF_MORE:
             self.refuses(plan_read, " " + text, many)
             self.refuses(plan_read, text + " ", many)
             self.refuses(plan_read, text + "\n", many)
@@ -137,7 +158,7 @@ class Plans(NoteCase):
             self.refuses(plan_read, text, 1)
 
     def test_words_out_twice_or_exchanged(self):
-        for plan, many, text in WRITTEN:
+        for plan, many, text in WRITTEN + WRITTEN_OF_MORE:
             words = text.split(" ")
             for place in range(len(words)):
                 self.check_other(" ".join(words[:place] + words[place + 1:]), many, text)
@@ -165,9 +186,26 @@ class Plans(NoteCase):
             for around in ("end {}", "lay {} : end 0", "mix {} : end 0", "look {} (0 : end 0)", "look 0 ({} : end 0)"):
                 self.refuses(plan_read, around.replace("{}", number), 1)
 
+    def test_figures_of_more_cards(self):
+        for number in ("12", "010", "0010", "00", "011", "-1", "+10", "1_0", "10.", "1O", "10a", "100000", "999999",
+                       "0" * 4000, "1" + "0" * 3900, "9" * 5000, "\u0661\u0660", "1\u0660", "\uff11\uff10", "1\u00b2"):
+            for around in ("end {}", "end 0 {}", "end 11 {}", "look {} (0 : end 0)", "look 0 ({} : end 0)",
+                           "look 0 (0 : end {})", "lay {} 0 1 2 3 4 5 6 7 8 9 11 : end 0",
+                           "mix 0 1 2 3 4 5 6 7 8 9 10 11 / 0 1 2 3 4 5 6 7 8 9 {} 11 : end 0"):
+                self.refuses(plan_read, around.replace("{}", number), 12)
+
+    def test_cards_have_one_figure(self):
+        for text in ("look 0 (10 : end 0)", "look 10 (0 : end 0 ; 11 : end 0)", "look 0 1 (0 10 : end 0)"):
+            self.refuses(plan_read, text, 12)
+
+    def test_a_place_just_beyond(self):
+        for many in (9, 10, 11, 12, 100, 101, 999999):
+            self.assertEqual(plan_read(f"end {many - 1}", many), ("end", (many - 1,)))
+            self.refuses(plan_read, f"end {many}", many)
+
     def test_another_count_of_cards(self):
-        for plan, many, text in WRITTEN:
-            for other in range(1, 9):
+        for plan, many, text in WRITTEN + WRITTEN_OF_MORE:
+            for other in range(1, 14):
                 if is_plan(plan, other):
                     self.assertEqual(plan_read(text, other), plan)
                 else:
@@ -220,7 +258,7 @@ class Plans(NoteCase):
     def test_at_large(self):
         source = Random(90)
         for step in range(500):
-            many = source.randint(2, 8)
+            many = source.randint(2, 14)
             plan = some_plan(source, many, 4)
             if not is_plan(plan, many):
                 continue
